@@ -1,0 +1,1 @@
+"""A document that many keep, without a middle."""
