@@ -1,5 +1,8 @@
 """Acts: what was done, and who did it when."""
 
+KEEPERS = 8
+MOST_KEY_BYTES = 32
+
 SET = 1
 INSERT = 2
 PUT = 3
@@ -16,6 +19,11 @@ class Change:
         self.element = element
         self.value = value
         self.amount = amount
+
+    def told_identities(self):
+        if self.element is None:
+            return [self.target]
+        return [self.target, self.element]
 
 
 class Act:

@@ -1,11 +1,10 @@
 """What a keeper does by itself: each call looks at its refusals in the order in which they are promised."""
 
-from keptbymany.acts import ADD, INSERT, PUT, REMOVE, SET, Change
+from keptbymany.acts import ADD, INSERT, MOST_KEY_BYTES, PUT, REMOVE, SET, Change
 from keptbymany.identities import FRONT, identity_bytes
 from keptbymany.refusals import NO_OBJECT, NO_ROOM, WRONG
 from keptbymany.valuekinds import COUNTER, LIST, MAP, is_whole_something, is_whole_value
 
-MOST_KEY_BYTES = 32
 MOST_VALUE_BYTES = 66
 
 

@@ -1,9 +1,12 @@
 """The calls on three keepers' objects, and their answers."""
 
+from keptbymany.acts import KEEPERS
 from keptbymany.doing import do_add, do_insert, do_put, do_remove, do_set
-from keptbymany.keeping import KEEPERS, Keeper
+from keptbymany.exchanging import do_hand, do_since, do_take
+from keptbymany.keeping import Keeper
 from keptbymany.reading import Reader
 from keptbymany.refusals import WRONG
+from keptbymany.telling import do_tell
 
 
 def call_begin(keepers, reader):
@@ -56,8 +59,39 @@ def call_add(keepers, reader):
     return do_add(keeper, target, amount)
 
 
+def call_since(keepers, reader):
+    keeper = keepers[reader.read_number()]
+    most = reader.read_number()
+    had = reader.read_row()
+    return do_since(keeper, most, had)
+
+
+def call_take(keepers, reader):
+    keeper = keepers[reader.read_number()]
+    return do_take(keeper, reader.read_row())
+
+
+def call_had(keepers, reader):
+    keeper = keepers[reader.read_number()]
+    return [0] + keeper.counts
+
+
+def call_tell(keepers, reader):
+    keeper = keepers[reader.read_number()]
+    return do_tell(keeper, reader.read_number())
+
+
+def call_hand(keepers, reader):
+    giver = keepers[reader.read_number()]
+    taker = keepers[reader.read_number()]
+    return do_hand(giver, taker, reader.read_number())
+
+
 # Each call stands at its number.
-CALLS = (call_begin, call_set, call_insert, call_put, call_remove, call_add)
+CALLS = (
+    call_begin, call_set, call_insert, call_put, call_remove, call_add,
+    call_since, call_take, call_had, call_tell, call_hand,
+)
 
 
 def answers(calls):

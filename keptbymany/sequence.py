@@ -1,4 +1,4 @@
-"""The order of a list: each element stands behind another or in front of all."""
+"""A list: each element stands behind another or in front of all, and has the newest of its values."""
 
 from keptbymany.identities import FRONT
 
@@ -7,13 +7,20 @@ class Sequence:
     def __init__(self):
         # The lesser id first, so that the greater is the first to be popped on the walk.
         self.behind = {FRONT: []}
+        self.newest = {}
         self.removed = {}
 
-    def place(self, element, before):
+    def place(self, element, before, value):
         if before not in self.behind:
             return
         self.behind[before] = sorted(self.behind[before] + [element])
         self.behind[element] = []
+        self.newest[element] = (element, value)
+
+    # A put may have a lesser id than the insert, where its keeper's time was behind.
+    def put(self, element, identity, value):
+        if element in self.newest and identity > self.newest[element][0]:
+            self.newest[element] = (identity, value)
 
     def take_out(self, element):
         self.removed[element] = True
@@ -28,3 +35,6 @@ class Sequence:
                 there.append(element)
             to_visit.extend(self.behind[element])
         return there
+
+    def entries_present(self):
+        return [self.newest[element] for element in self.present()]

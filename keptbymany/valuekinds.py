@@ -14,6 +14,8 @@ SIZES = (1, 9, 2, 1, 1, 1)
 
 
 def is_whole_value(value):
+    if not value:
+        return False
     kind = value[0]
     if kind > COUNTER or len(value) < SIZES[kind]:
         return False
@@ -23,7 +25,7 @@ def is_whole_value(value):
 
 
 def is_whole_something(value):
-    return value[0] != NOTHING and is_whole_value(value)
+    return is_whole_value(value) and value[0] != NOTHING
 
 
 def is_object_kind(kind):

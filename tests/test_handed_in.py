@@ -1,13 +1,18 @@
 import unittest
 
 from keptbymany.keepers import answers
-from tests.helper import COUNTER, LIST, MAP, ROOT, add, begin, insert, number, put, remove, set_key, set_with_counts
+from tests.helper import (COUNTER, LIST, MAP, ROOT, add, begin, had, hand, insert, number, put, remove, row_of, set_key,
+                          set_message, set_with_counts, since, take, take_bytes, tell)
 
 CALLS = [
     begin(0, 1), begin(1, 9), begin(1, 2),
     set_key(0, ROOT, b"l", LIST), set_key(1, ROOT, b"c", COUNTER),
     insert(0, (1, 1), 0, MAP), insert(0, (1, 1), 1, number(4)), put(0, (1, 1), 1, LIST), remove(0, (1, 1), 0),
     add(1, (1, 2), -5), add(1, (1, 1), -5), set_with_counts(0, ROOT, 0, 0, [], []), remove(0, (1, 1), 1),
+    since(0), since(1, 30, [1] * 8), since(0, -1), tell(0), tell(1, 3), tell(1, -3), had(0), had(1),
+    hand(0, 1), hand(1, 0, 20), hand(1, 0), hand(1, 1), hand(0, 1, -1),
+    take(0, set_message(5, 2, 9, ROOT, b"w", MAP)), take(0, set_message(5, 1, 8, ROOT, b"v", LIST)),
+    take_bytes(1, row_of(set_message(5, 1, 8, ROOT, b"v", LIST)) + [0]), take(1), tell(0), tell(1), had(0), since(1),
 ]
 
 

@@ -1,4 +1,4 @@
-"""Which elements are there, and in which order: below the calls, since none of them tells it yet."""
+"""Which elements are there, and in which order: below the calls, where acts can be had in any order."""
 
 import itertools
 import random
@@ -166,7 +166,8 @@ class ActsOfMany(unittest.TestCase):
 
     def test_on_another_kind_makes_nothing_but_the_object_it_brings(self):
         document = Document()
-        for act in (BRING_LIST, inserted(2, 1, FRONT, ROOT), Act(1, 2, 3, Change(INSERT, ROOT, element=FRONT, value=[4])),
+        for act in (BRING_LIST, inserted(2, 1, FRONT, ROOT),
+                    Act(1, 2, 3, Change(INSERT, ROOT, element=FRONT, value=[4])),
                     Act(1, 3, 4, Change(SET, MADE, key=[97], value=[5])), Act(1, 4, 5, Change(ADD, MADE, amount=1)),
                     Act(1, 5, 6, Change(PUT, MADE, element=(2, 1), value=[3]))):
             document.apply(act)
